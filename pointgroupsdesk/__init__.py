@@ -1,0 +1,1 @@
+"""Groups of permutations, told by what makes them."""
