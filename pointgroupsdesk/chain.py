@@ -22,12 +22,31 @@ class Level:
         self.kin = list(none)
         self.all_even = True
 
+    # Turns a new level into that of a known group: kept has a member for each point that is reached, and below is the
+    # level that comes next, which is full already.
+    #
+    # What makes all members below, and takes the level's point to every point that is reached, makes the whole group.
+    # So only those kept members become makers that bring the point together with new kin.
+    def fill(self, kept, below):
+        self.makers = list(below.makers)
+        self.kin = list(below.kin)
+        self.all_even = below.all_even
+        for x in kept:
+            if x != self.point:
+                self.keep(kept[x])
+            if self.kin[x] != self.kin[self.point]:
+                self.note_maker(kept[x])
+        self.skip_untried()
+
     def take_maker(self, row):
+        self.note_maker(row)
+        self.reach()
+
+    def note_maker(self, row):
         self.makers.append(row)
         self.done.append(0)
         self.all_even = self.all_even and is_even(row)
         self.join_kin(row)
-        self.reach()
 
     def join_kin(self, row):
         for i, x in enumerate(row):
@@ -80,6 +99,15 @@ def new_levels(points):
     return [Level(i, none) for i in range(points)]
 
 
+# The levels of a group of which the kept members of each level are known, by where they take the level's point.
+def levels_of(outs):
+    levels = new_levels(len(outs))
+    # The last level is full from the beginning: what leaves all points but one where they are is none.
+    for i in range(len(outs) - 2, -1, -1):
+        levels[i].fill(outs[i], levels[i + 1])
+    return levels
+
+
 # How many members leave the points ahead of the level start where they are.
 def count_members(levels, start):
     count = 1
@@ -97,6 +125,17 @@ def is_member(levels, start, row):
                 return False
             row = then(row, level.back[x])
     return True
+
+
+# Rows that make the whole group.
+def makers_of(levels):
+    return list(levels[0].makers)
+
+
+# The points to which members take this one, the lowest first.
+def orbit_of(levels, point):
+    kin = levels[0].kin
+    return [x for x in range(len(levels)) if kin[x] == kin[point]]
 
 
 # Makes the levels those of the group that they and the row, which is no member, make.

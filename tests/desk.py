@@ -33,14 +33,47 @@ def first(o, p):
     return [7, o, len(p)] + list(p)
 
 
+def orbit(o, i):
+    return [8, o, i]
+
+
+def ways(o, i, j):
+    return [9, o, i, j]
+
+
+def fix(o, i):
+    return [10, o, i]
+
+
+def inside(a, b):
+    return [11, a, b]
+
+
+def join(a, b):
+    return [12, a, b]
+
+
+def commutes(o, p):
+    return [13, o, len(p)] + list(p)
+
+
+def even(o):
+    return [14, o]
+
+
 def number(value):
-    """The answer of order or rank for a number of 128 bits."""
+    """The answer of order, rank or ways for a number of 128 bits."""
     return [0, value % WORD, value // WORD]
 
 
 def row(p):
     """The answer of at or first for a row."""
     return [0] + list(p)
+
+
+def points(some):
+    """The answer of orbit for some points."""
+    return [len(some)] + list(some)
 
 
 def split(found):

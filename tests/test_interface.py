@@ -8,7 +8,10 @@ import unittest
 
 from pointgroupsdesk.groups import answers
 from tests import desk
-from tests.desk import add, ask, at, cycles, first, has, make, new, number, order, rank, row
+from tests.desk import (
+    add, ask, at, commutes, cycles, even, first, fix, has, inside, join, make, new, number, orbit, order, points, rank,
+    row, ways,
+)
 
 # Far more than the slowest list here takes: only an answer that is out of all proportion is to fail.
 SECONDS = 60
@@ -34,6 +37,17 @@ class Form(unittest.TestCase):
         found = [1, 0, 1, 1, 3, 0, 3, 0, 1, 1, 4, 0, 1, 2, 0, 3, 0, 2, 0, 4, 0, 0, 2, 1]
         self.assertEqual(answers(calls), found)
 
+    def test_number_by_number_from_orbit_on(self):
+        calls = [1, 0, 3, 1, 1, 3, 2, 0, 3, 1, 2, 0, 8, 0, 2, 9, 0, 1, 2, 11, 0, 1, 12, 1, 0, 13, 1, 3, 2, 0, 1, 14, 1]
+        found = [1, 0, 1, 0, 1, 1, 4, 3, 0, 1, 2, 3, 0, 1, 0, 1, 0, 1, 1, 1, 1, 1, 1]
+        calls += [10, 0, 2, 10, 0, 2, 11, 0, 1, 8, 0, 2]
+        found += [1, 1, 1, 0, 1, 1, 2, 1, 2]
+        self.assertEqual(answers(calls), found)
+
+    def test_refusals_from_orbit_on_are_one_number(self):
+        calls = [1, 0, 2, 1, 1, 3, 8, 0, 2, 9, 0, 0, 2, 9, 0, -1, 0, 10, 0, 2, 12, 0, 1, 12, 1, 0, 13, 0, 2, 0, 0, 14, 0]
+        self.assertEqual(answers(calls), [1, 0, 1, 0, 1, -2, 1, -2, 1, -2, 1, -2, 1, -1, 1, -1, 1, -2, 1, 1])
+
     def test_refusals_are_one_number(self):
         self.assertEqual(answers([1, 0, 2, 1, 0, 0, 2, 0, 2, 1, 1, 5, 0, 1, 0, 6, 0, 2, 1, 0]), [1, 0, 1, -2, 1, -2, 1, -1, 1, -1])
 
@@ -49,14 +63,18 @@ class Form(unittest.TestCase):
     def test_kinds(self):
         calls = make(0, 4, [[1, 2, 3, 0], [1, 2, 3, 0]])
         calls += [order(0), has(0, [1, 2, 3, 0]), has(0, [1, 0, 2, 3]), at(0, 2), at(0, 9), rank(0, [3, 0, 1, 2])]
-        calls += [first(0, [3, 2, 1, 0]), new(0, 0)]
+        calls += [first(0, [3, 2, 1, 0]), new(0, 0), orbit(0, 1), orbit(0, 4), ways(0, 0, 1), even(0), new(1, 4), even(1)]
+        calls += [inside(0, 1), inside(1, 0), commutes(0, [1, 0, 2, 3]), commutes(0, [2, 3, 0, 1]), join(1, 0), join(1, 0)]
+        calls += [fix(0, 0), fix(0, 0), fix(0, 4), new(1, 2), join(0, 1), inside(0, 1)]
         found = answers(flat(calls))
         self.assertIs(type(found), list)
         self.assertEqual({type(x) for x in found}, {int})
 
     def test_what_is_handed_in_is_not_changed(self):
         calls = flat(make(0, 6, desk.symmetric(6)) + [order(0), has(0, [5, 4, 3, 2, 1, 0]), at(0, 100), at(0, 720)])
-        calls += flat([rank(0, [1, 0, 2, 3, 5, 4]), first(0, [3, 4, 5, 0, 1, 2]), add(0, [0] * 6), new(0, 0), new(0, 2)])
+        calls += flat([rank(0, [1, 0, 2, 3, 5, 4]), first(0, [3, 4, 5, 0, 1, 2]), add(0, [0] * 6), new(0, 0), new(1, 6)])
+        calls += flat([orbit(0, 2), orbit(0, 6), ways(0, 1, 5), inside(1, 0), join(1, 0), join(1, 1), fix(0, 3), fix(0, -1)])
+        calls += flat([commutes(0, [0, 1, 2, 4, 3, 5]), commutes(0, [6] * 6), even(0), join(0, 1), new(0, 2), join(0, 1)])
         kept = list(calls)
         wanted = answers(calls)
         self.assertEqual(calls, kept)
@@ -76,10 +94,19 @@ class Form(unittest.TestCase):
             self.assertEqual(answers(calls), wanted)
             self.assertEqual(answers([1, 0, 5, 3, 0]), [1, 0, 3, 0, 1, 0])
 
+    def test_nothing_is_kept_of_fix_and_join(self):
+        calls = flat([new(0, 4), new(1, 4), add(0, [1, 2, 3, 0]), add(1, [1, 0, 2, 3]), join(0, 1), order(0), fix(0, 2)])
+        calls += flat([order(0), orbit(0, 0), even(0), inside(1, 0), commutes(0, [0, 1, 3, 2]), ways(0, 0, 3)])
+        wanted = [[0], [0], [1], [1], [1], number(24), [1], number(6), points([0, 1, 3]), [0], [1], [0], number(2)]
+        for _ in range(3):
+            self.assertEqual(desk.split(answers(calls)), wanted)
+            self.assertEqual(ask(new(0, 4), new(1, 4), order(0), order(1), join(0, 1), even(0))[2:], [number(1)] * 2 + [[0], [1]])
+
     def test_nothing_is_printed(self):
         said = io.StringIO()
         with contextlib.redirect_stdout(said), contextlib.redirect_stderr(said):
-            ask(*make(0, 5, desk.symmetric(5)), order(0), at(0, 3), new(0, 99))
+            ask(*make(0, 5, desk.symmetric(5)), order(0), at(0, 3), new(0, 99), new(1, 5), join(1, 0), fix(0, 2), fix(0, 9))
+            ask(new(0, 2), orbit(0, 0), ways(0, 0, 1), inside(0, 0), commutes(0, [1, 0]), even(0))
         self.assertEqual(said.getvalue(), "")
 
 
@@ -123,6 +150,7 @@ class FullLength(unittest.TestCase):
         self.assertLess(time.process_time() - begun, SECONDS)
         self.assertEqual(handed, kept)
         self.assertEqual(len(found), 300)
+        self.assertEqual(desk.split(answers(handed)), found)
         return found
 
     def test_all_of_34_from_anew_again_and_again(self):
@@ -165,6 +193,38 @@ class FullLength(unittest.TestCase):
         found = self.run_calls(calls)[4:]
         self.assertEqual(found[0::2], [row(desk.all_at(34, k)) for k in places])
         self.assertEqual(found[1::2], [number(k) for k in places])
+
+    def all_of_34_in_both(self):
+        return make(0, 34, desk.symmetric(34)) + make(1, 34, desk.symmetric(34))
+
+    def test_fix_and_add_again_and_again(self):
+        for makers in (desk.turned_pairs(17), desk.swapped_blocks(17), desk.symmetric(34)):
+            calls = make(0, 34, makers)
+            size = ask(*calls, order(0))[-1]
+            k = 0
+            while len(calls) + 2 + len(makers) <= 300:
+                calls += [fix(0, k * 5 % 34)] + [add(0, p) for p in makers] + [order(0)]
+                k += 1
+            calls += [even(0)] * (300 - len(calls))
+            found = self.run_calls(calls)[1 + len(makers):]
+            self.assertEqual(found[1 + len(makers):k * (2 + len(makers)):2 + len(makers)], [size] * k)
+
+    def test_fix_and_join_again_and_again(self):
+        calls = self.all_of_34_in_both()
+        for k in range(98):
+            calls += [fix(k % 2, k * 7 % 34), inside(k % 2, 1 - k % 2), join(k % 2, 1 - k % 2)]
+        found = self.run_calls(calls)
+        self.assertEqual(found[6:], [[1], [1], [1]] * 98)
+
+    def test_looks_at_many(self):
+        shuffler = desk.Shuffler(14)
+        calls = self.all_of_34_in_both()
+        wanted = [[0], [1], [1]] * 2
+        for k in range(49):
+            i = shuffler.below(34)
+            calls += [orbit(0, i), ways(1, i, k % 34), inside(0, 1), join(1, 0), commutes(0, shuffler.row(34)), even(1)]
+            wanted += [points(range(34)), number(math.factorial(33)), [1], [0], [0], [0]]
+        self.assertEqual(self.run_calls(calls), wanted)
 
     def test_small_calls(self):
         self.assertEqual(self.run_calls([new(0, 1)] * 300), [[0]] * 300)
